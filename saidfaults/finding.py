@@ -1,4 +1,4 @@
-"""The nine kinds of faults.
+"""The nine kinds of faults, and what they are found by: headings, and the heads of cells.
 
 Each finder tells of one box: None if it hasn't the fault, else the other box's id, empty if there's none.
 """
@@ -31,19 +31,22 @@ def sounds_like(view, place, other):
     return same_role and view.names[place] == view.names[other]
 
 
+def heading_places(view):
+    boxes = view.page.boxes
+    return [place for place in range(len(boxes)) if view.said[place] and boxes[place].kind in LEVELS]
+
+
+def level_at(view, place):
+    return LEVELS[view.page.boxes[place].kind]
+
+
 def find_jump(view, place):
-    kind = view.page.boxes[place].kind
-    if kind not in LEVELS or not view.said[place]:
+    headings = heading_places(view)
+    if place not in headings:
         return None
-    return without_other(LEVELS[kind] > level_before(view, place) + 1)
-
-
-def level_before(view, place):
-    for before in range(place - 1, -1, -1):
-        kind = view.page.boxes[before].kind
-        if kind in LEVELS and view.said[before]:
-            return LEVELS[kind]
-    return 0
+    before = [level_at(view, heading) for heading in headings if heading < place]
+    last_level = before[-1] if len(before) > 0 else 0
+    return without_other(level_at(view, place) > last_level + 1)
 
 
 def find_unspoken(view, place):

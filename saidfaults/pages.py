@@ -1,15 +1,16 @@
 """The calls on one object, and their answers."""
 
-from saidfaults.finding import FINDERS, find_faults
+from saidfaults.finding import FINDERS, find_faults, head_places, heading_places, level_at
 from saidfaults.forms import is_saying, require
 from saidfaults.pagetexts import read_page
-from saidfaults.refusals import CannotPress, DoesNothing, NoSuchBox, NoSuchFault, WrongText
+from saidfaults.refusals import CannotPress, DoesNothing, HasNoColumn, NoSuchBox, NoSuchFault, WrongText
 from saidfaults.ruletexts import RULES_AT_FIRST, read_rules
 from saidfaults.signs import counted, text_of
 from saidfaults.states import State, can_be_pressed, press_box
 from saidfaults.views import View
 
 PAGE_AT_FIRST = "page top\n"
+KINDS_WITH_HEADS = ("cell", "th")
 
 
 class Screen:
@@ -63,6 +64,13 @@ def told_faults(found):
     return told
 
 
+def told_boxes(page, places):
+    told = [len(places)]
+    for place in places:
+        told.extend(counted(page.boxes[place].ident))
+    return told
+
+
 def call_page(screen, calls):
     screen.page = read_page(calls.take_text())
     screen.state = State(screen.page)
@@ -113,10 +121,43 @@ def call_at(screen, calls):
     return [len(kinds)] + kinds
 
 
+def call_clean(screen, calls):
+    return [1 if screen.faults_now() == [] else 0]
+
+
+def call_counts(screen, calls):
+    kinds = [fault[0] for fault in screen.faults_now()]
+    return [kinds.count(kind) for kind in range(1, len(FINDERS) + 1)]
+
+
+def call_headings(screen, calls):
+    view = screen.view_now()
+    places = heading_places(view)
+    told = [len(places)]
+    for place in places:
+        told.append(level_at(view, place))
+        told.extend(counted(screen.page.boxes[place].ident))
+    return told
+
+
+def call_heads(screen, calls):
+    place = screen.place_named(calls.take_text())
+    if screen.page.boxes[place].kind not in KINDS_WITH_HEADS:
+        raise HasNoColumn()
+    return told_boxes(screen.page, head_places(screen.view_now(), place))
+
+
+def call_alike(screen, calls):
+    place = screen.place_named(calls.take_text())
+    view = screen.view_now()
+    # A name that is nothing is a name like others here: it finds all that have none.
+    alike = [other for other in view.focus_places() if view.names[other] == view.names[place]]
+    return told_boxes(screen.page, alike)
+
+
 def call_size(screen, calls):
     view = screen.view_now()
-    stops = [place for place in range(len(screen.page.boxes)) if view.stops_focus(place)]
-    return [len(screen.page.boxes), len(stops), len(find_faults(view))]
+    return [len(screen.page.boxes), len(view.focus_places()), len(find_faults(view))]
 
 
 CALLS = {
@@ -127,6 +168,11 @@ CALLS = {
     4: call_faults,
     5: call_only,
     6: call_at,
+    7: call_clean,
+    8: call_counts,
+    9: call_headings,
+    10: call_heads,
+    11: call_alike,
     12: call_size,
 }
 
@@ -141,7 +187,7 @@ def answer_of(screen, calls):
         return [-3]
     except (DoesNothing, NoSuchFault):
         return [-5]
-    except CannotPress:
+    except (CannotPress, HasNoColumn):
         return [-6]
 
 

@@ -19,3 +19,7 @@ class NoSuchFault(ValueError):
 
 class CannotPress(ValueError):
     """The box to be pressed is off, not visible, or not in the modal."""
+
+
+class HasNoColumn(ValueError):
+    """The box whose heads are asked for is no cell and no th."""

@@ -24,6 +24,9 @@ class View:
     def stops_focus(self, place):
         return self.said[place] and self.rule_at(place).focus
 
+    def focus_places(self):
+        return [place for place in range(len(self.page.boxes)) if self.stops_focus(place)]
+
 
 def said_boxes(page, rules, visible):
     said = []

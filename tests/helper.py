@@ -75,8 +75,33 @@ def at(ident):
     return [6] + row(ident)
 
 
+def clean():
+    return [7]
+
+
+def counts():
+    return [8]
+
+
+def headings():
+    return [9]
+
+
+def heads(ident):
+    return [10] + row(ident)
+
+
+def alike(ident):
+    return [11] + row(ident)
+
+
 def size():
     return [12]
+
+
+def boxes(*lines):
+    """A page's text: the box top, and these in it."""
+    return "page top\n" + "".join("  " + line + "\n" for line in lines)
 
 
 def other_rules(**lines):
@@ -122,6 +147,40 @@ def read_faults(numbers):
         left = rest
     assert len(out) == numbers[0], numbers
     return out
+
+
+def read_texts(numbers):
+    left = numbers[1:]
+    out = []
+    while left:
+        text, left = read_text(left)
+        out.append(text)
+    assert len(out) == numbers[0], numbers
+    return out
+
+
+def read_headings(numbers):
+    """Headings as a list of texts such as '2 title'."""
+    left = numbers[1:]
+    out = []
+    while left:
+        text, rest = read_text(left[1:])
+        out.append(str(left[0]) + " " + text)
+        left = rest
+    assert len(out) == numbers[0], numbers
+    return out
+
+
+def headings_of(*calls):
+    return read_headings(last(*calls, headings()))
+
+
+def heads_of(ident, *calls):
+    return read_texts(last(*calls, heads(ident)))
+
+
+def alike_to(ident, *calls):
+    return read_texts(last(*calls, alike(ident)))
 
 
 def faults_of(*calls):

@@ -1,7 +1,8 @@
 import unittest
 
 from tests.helper import (
-    EXAMPLE, at, faults, faults_of, kinds_at, label, last, only, page, read_faults, run, size, text_told,
+    EXAMPLE, alike, alike_to, at, clean, counts, faults, faults_of, headings, headings_of, heads, heads_of, kinds_at,
+    label, last, only, page, read_faults, run, size, text_told,
 )
 
 FAULTS = ["3 title", "4 one", "2 two one", "1 pic", "1 y", "5 c", "1 z", "6 z x", "7 z"]
@@ -23,19 +24,40 @@ class Example(unittest.TestCase):
     def test_only(self):
         self.assertEqual(read_faults(last(page(EXAMPLE), only(2))), ["2 two one"])
 
+    def test_counts_and_clean(self):
+        self.assertEqual(last(page(EXAMPLE), counts()), [3, 1, 1, 1, 1, 1, 1, 0, 0])
+        self.assertEqual(last(page(EXAMPLE), clean()), [0])
+
+    def test_headings(self):
+        self.assertEqual(headings_of(page(EXAMPLE)), ["2 title"])
+
+    def test_heads(self):
+        self.assertEqual(heads_of("c", page(EXAMPLE)), [])
+
+    def test_alike(self):
+        self.assertEqual(alike_to("one", page(EXAMPLE)), ["one", "two"])
+
     def test_label_and_size(self):
         told = run(page(EXAMPLE), label("pic", "Dog"), size())
         self.assertEqual(text_told(told[1]), "")
         self.assertEqual(told[2], [11, 4, 8])
 
     def test_whole_line_number_by_number(self):
-        told = run(page(EXAMPLE), faults(), at("z"), only(2), label("pic", "Dog"), size())
+        told = run(page(EXAMPLE), faults(), counts(), at("z"), only(2), clean(), headings(), heads("c"), alike("one"),
+                   label("pic", "Dog"), size())
         self.assertEqual(told[0], [11])
         self.assertEqual(told[1][:9], [9, 3, 5, 116, 105, 116, 108, 101, 0])
-        self.assertEqual(told[2], [3, 1, 6, 7])
-        self.assertEqual(told[3], [1, 2, 3, 116, 119, 111, 3, 111, 110, 101])
-        self.assertEqual(told[4], [0])
-        self.assertEqual(told[5], [11, 4, 8])
+        self.assertEqual(told[2:], [
+            [3, 1, 1, 1, 1, 1, 1, 0, 0],
+            [3, 1, 6, 7],
+            [1, 2, 3, 116, 119, 111, 3, 111, 110, 101],
+            [0],
+            [1, 2, 5, 116, 105, 116, 108, 101],
+            [0],
+            [2, 3, 111, 110, 101, 3, 116, 119, 111],
+            [0],
+            [11, 4, 8],
+        ])
 
 
 if __name__ == "__main__":

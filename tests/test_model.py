@@ -5,7 +5,9 @@ import re
 import unittest
 
 from saidfaults.pages import answers
-from tests.helper import FIRST_RULES, at, faults, label, only, page, press, rules, size
+from tests.helper import (
+    FIRST_RULES, alike, at, clean, counts, faults, headings, heads, label, only, page, press, rules, size,
+)
 
 KINDS = "page part h1 h2 h3 p link button field check list item table row cell th image live modal".split()
 KEPT = "label|by|hint|hidden|off|on|order|press"
@@ -173,9 +175,32 @@ class Model:
             found += [(number, box["ident"], others.get(number, "")) for number in there if there[number]]
         return found
 
+    def stops(self):
+        return [box for box in self.boxes if self.said(box) and self.focus(box)]
+
     def sized(self):
-        stops = [box for box in self.boxes if self.said(box) and self.focus(box)]
-        return [len(self.boxes), len(stops), len(self.faults())]
+        return [len(self.boxes), len(self.stops()), len(self.faults())]
+
+    def counted(self):
+        found = [0] * 9
+        for fault in self.faults():
+            found[fault[0] - 1] += 1
+        return found
+
+    def headings(self):
+        found = [box for box in self.boxes if re.fullmatch("h[123]", box["kind"]) and self.said(box)]
+        return [len(found)] + [
+            number for box in found for number in [int(box["kind"][1])] + told_text(box["ident"])]
+
+    def headed(self, ident):
+        if self.named(ident)["kind"] not in ("cell", "th"):
+            return [-6]
+        found = [box["ident"] for box in self.heads(self.named(ident))]
+        return told_texts([box["ident"] for box in self.boxes if box["ident"] in found])
+
+    def alike(self, ident):
+        name = self.name(self.named(ident), False)
+        return told_texts([box["ident"] for box in self.stops() if self.name(box, False) == name])
 
     def labelled(self, ident, saying):
         if saying and not re.fullmatch(SAYING + '"', saying + '"'):
@@ -193,14 +218,15 @@ class Model:
             found = model_rules(*given)
             self.rules = found or self.rules
             return [sum(bool(rule["focus"]) for rule in found.values())] if found else [-1]
-        if verb == "size":
-            return self.sized()
-        if verb in ("press", "label", "at") and given[0] not in [box["ident"] for box in self.boxes]:
+        asked = {"size": self.sized, "counts": self.counted, "headings": self.headings,
+                 "clean": lambda: [0 if self.faults() else 1]}
+        if verb in asked:
+            return asked[verb]()
+        of_a_box = {"press": self.press, "label": self.labelled, "heads": self.headed, "alike": self.alike}
+        if verb in ("at", *of_a_box) and given[0] not in [box["ident"] for box in self.boxes]:
             return [-3]
-        if verb == "press":
-            return self.press(*given)
-        if verb == "label":
-            return self.labelled(*given)
+        if verb in of_a_box:
+            return of_a_box[verb](*given)
         if verb == "at":
             kinds = [fault[0] for fault in self.faults() if fault[1] == given[0]]
             return [len(kinds)] + kinds
@@ -215,8 +241,12 @@ def told_text(text):
     return [len(text)] + list(text.encode("latin-1"))
 
 
+def told_texts(texts):
+    return [len(texts)] + [number for text in texts for number in told_text(text)]
+
+
 CALLS = {"page": page, "rules": rules, "press": press, "label": label, "faults": faults, "only": only, "at": at,
-         "size": size}
+         "clean": clean, "counts": counts, "headings": headings, "heads": heads, "alike": alike, "size": size}
 IDENTS = "a b c d e f g h i j k l m n o show page".split()
 SAYINGS = ["A", "B", "A B", "Go", "Go on", "5"]
 
@@ -254,6 +284,22 @@ def chance_page(dice):
     return out
 
 
+def chance_tables(dice):
+    """A page of one or two tables with many heads, and a button that shows and hides what stands there."""
+    named = dice.sample("abcdefghijklmno", 15)
+    out = 'page top\n  button %s "A" press %s\n' % (
+        named[0], " ".join("flip:" + dice.choice(named) for k in range(3)))
+    holders = []
+    for ident in named[1:]:
+        choices = ["table"] if not holders else ["row"] if len(holders) == 1 else ["th", "th", "cell", "cell", "row"]
+        kind = dice.choice(choices + ["table"] * (dice.random() < 0.1))
+        holders = holders[:{"table": 0, "row": 1}.get(kind, 2)]
+        out += "  " * (len(holders) + 1) + kind + " " + ident + dice.choice(["", "", "", "", "", " hidden"]) + "\n"
+        if kind in ("table", "row"):
+            holders.append(kind)
+    return out
+
+
 def chance_rules(dice):
     out = ""
     for line in FIRST_RULES.splitlines(True):
@@ -285,9 +331,9 @@ def slip(dice, text):
 
 def chance_call(dice, boxes):
     ident = dice.choice([box["ident"] for box in boxes] + ["x"])
-    verb = dice.choice(["press"] * 6 + ["label"] * 3 + ["faults"] * 4 + ["only", "at", "at", "size", "page", "rules"])
+    verb = dice.choice(["press"] * 6 + ["label"] * 3 + ["heads", "alike"] * 2 + list(CALLS))
     if verb == "page":
-        return (verb, slip(dice, chance_page(dice)))
+        return (verb, dice.choice([slip(dice, chance_page(dice)), chance_page(dice), chance_tables(dice)]))
     if verb == "rules":
         return (verb, chance_rules(dice) if dice.random() < 0.8 else slip(dice, chance_rules(dice)))
     if verb == "label":
@@ -297,7 +343,10 @@ def chance_call(dice, boxes):
     working = [box["ident"] for box in boxes if box["acts"] or box["kind"] == "check"]
     if verb == "press" and working and dice.random() < 0.8:
         return (verb, dice.choice(working))
-    return (verb,) if verb in ("faults", "size") else (verb, ident)
+    cells = [box["ident"] for box in boxes if box["kind"] in ("cell", "th")]
+    if verb == "heads" and cells and dice.random() < 0.8:
+        return (verb, dice.choice(cells))
+    return (verb, ident) if verb in ("press", "at", "heads", "alike") else (verb,)
 
 
 def compare(test, line):
@@ -322,17 +371,43 @@ class AgainstTheModel(unittest.TestCase):
             model = Model()
             given = []
             expected = []
-            step(model, ("page", chance_page(dice)), given, expected)
-            for k in range(dice.randint(5, 30)):
+            if dice.random() < 0.9:
+                step(model, ("page", dice.choice([chance_page, chance_tables])(dice)), given, expected)
+            for k in range(dice.randint(5, 39)):
                 step(model, chance_call(dice, model.boxes), given, expected)
-            for call in (("faults",), ("size",)):
-                step(model, call, given, expected)
             self.assertEqual(answers(given), expected, given)
+
+    def test_lines_mix_all_calls_and_refusals(self):
+        dice = random.Random(5)
+        for round_number in range(100):
+            model = Model()
+            line = [("page", chance_page(dice))] + [chance_call(dice, model_page("page top\n")) for k in range(12)]
+            line += [("heads", "x"), ("alike", "x"), ("press", "x"), ("heads", "top"), ("only", 0), ("page", ""),
+                     ("rules", ""), ("label", "top", " "), ("rules", chance_rules(dice)), ("label", "top", "A")]
+            line += [("faults",), ("clean",), ("counts",), ("headings",), ("alike", "top"), ("at", "top"), ("only", 1)]
+            dice.shuffle(line)
+            given = []
+            expected = []
+            for call in line:
+                step(model, call, given, expected)
+            kept = list(given)
+            self.assertEqual(answers(given), expected, given)
+            self.assertEqual(given, kept)
+            self.assertEqual(answers(given), expected, given)
+
+    def test_every_box_is_asked(self):
+        dice = random.Random(6)
+        for round_number in range(400):
+            text = dice.choice([chance_page, chance_tables])(dice)
+            idents = [box["ident"] for box in model_page(text)]
+            ahead = [("page", text), ("press", dice.choice(idents)), ("press", idents[-1]), ("clean",), ("counts",)]
+            for verb in ("at", "heads", "alike"):
+                compare(self, ahead + [(verb, ident) for ident in idents] + [("headings",), ("size",)])
 
     def test_pages_by_chance_are_pages(self):
         dice = random.Random(2)
         for round_number in range(300):
-            text = chance_page(dice)
+            text = dice.choice([chance_page, chance_tables])(dice)
             self.assertIsNotNone(model_page(text), text)
             compare(self, [("page", text)])
 

@@ -1,8 +1,8 @@
 import unittest
 
 from tests.helper import (
-    EXAMPLE, at, faults, faults_of, kinds_at, label, last, other_rules, page, press, refused_only, rules, run, size,
-    text_told,
+    EXAMPLE, at, boxes, faults, faults_of, kinds_at, label, last, other_rules, page, press, refused_only, rules, run,
+    size, text_told,
 )
 
 BEFORE = (
@@ -12,10 +12,6 @@ BEFORE = (
     label("b", "D"),
 )
 PROBES = (faults(), size(), label("b", ""), label("c", ""), press("b"), press("b"), press("c"), at("p"), faults())
-
-
-def boxes(*lines):
-    return "page top\n" + "".join("  " + line + "\n" for line in lines)
 
 
 class GoodPages(unittest.TestCase):

@@ -1,10 +1,6 @@
 import unittest
 
-from tests.helper import at, faults, label, last, other_rules, page, press, refused_only, rules, run, size
-
-
-def boxes(*lines):
-    return "page top\n" + "".join("  " + line + "\n" for line in lines)
+from tests.helper import at, boxes, faults, label, last, other_rules, page, press, refused_only, rules, run, size
 
 
 class Pressed(unittest.TestCase):
@@ -65,6 +61,11 @@ class Modals(unittest.TestCase):
 
     def test_one_without_boxes_lets_nothing_be_pressed(self):
         self.assertEqual(last(page(boxes("check a", "modal m")), press("a")), [-6])
+
+    def test_one_at_any_place(self):
+        for count in range(5):
+            text = boxes("check a", "modal m", *["p " + "bcdef"[k] for k in range(count)])
+            self.assertEqual(last(page(text), press("a")), [-6], count)
 
     def test_one_in_another(self):
         text = boxes("modal m", "  check a", "  modal n", "    check b", "  check c")
